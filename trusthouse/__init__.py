@@ -1,0 +1,1 @@
+"""Keys from a house that all trust."""
