@@ -119,6 +119,16 @@ def show(now, name, message):
     return [3, now, len(name), *name, len(message), *message]
 
 
+class Untouched(list):
+    """A list that fails where it is changed, if only for a while."""
+
+    def fail(self, *args, **kwargs):
+        raise AssertionError("what was handed in is changed")
+
+    __setitem__ = __delitem__ = __iadd__ = __imul__ = fail
+    append = clear = extend = insert = pop = remove = reverse = sort = fail
+
+
 def parted(told):
     """The answers' one list as a list for each call."""
     parts = []
@@ -139,7 +149,7 @@ def last(*calls):
 
 
 def bytes_answer(row):
-    """How tk_answer answers these bytes."""
+    """How tk_answer, and each call that stands by itself, answers these bytes."""
     return [len(row), *row]
 
 

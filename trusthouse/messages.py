@@ -180,5 +180,9 @@ def told_piece(ticket, service, nonce, asker_key):
     return sealed_piece(asker_key, text)
 
 
+def asked_message(nonce, life, client, service):
+    return [ASKED] + name_piece(client) + name_piece(service) + octets_of(nonce, 8) + octets_of(life, 4)
+
+
 def refused(why):
     return [REFUSED, why]
