@@ -51,6 +51,23 @@ class Proof:
         self.time = time
 
 
+class Given:
+    def __init__(self, ticket, told):
+        self.ticket = ticket
+        self.told = told
+
+
+class Told:
+    """What the asker is told of the ticket."""
+
+    def __init__(self, key, service, nonce, start, end):
+        self.key = key
+        self.service = service
+        self.nonce = nonce
+        self.start = start
+        self.end = end
+
+
 class Reader:
     """Takes piece behind piece from a row; whether all were there as told is seen at the end."""
 
@@ -129,6 +146,17 @@ def read_shown(message):
     return Shown(ticket, proof)
 
 
+def read_given(message):
+    """What is given or more given, or None where the message is neither."""
+    reader = Reader(message)
+    kind = reader.take_number(1)
+    ticket = reader.take_sealed()
+    told = reader.take_sealed()
+    if kind not in (GIVEN, MORE_GIVEN) or not reader.ended_well():
+        return None
+    return Given(ticket, told)
+
+
 def read_ticket(key, sealed):
     """The ticket within, or None where it doesn't open with the key or isn't one."""
     text = unseal(key, sealed)
@@ -157,6 +185,22 @@ def read_proof(key, sealed):
     return Proof(client, time)
 
 
+def read_told(key, sealed):
+    """What is told of a ticket, or None where it doesn't open with the key or isn't so."""
+    text = unseal(key, sealed)
+    if text is None:
+        return None
+    reader = Reader(text)
+    session_key = reader.take(16)
+    service = reader.take_name()
+    nonce = reader.take_number(8)
+    start = reader.take_number(8)
+    end = reader.take_number(8)
+    if not reader.ended_well():
+        return None
+    return Told(session_key, service, nonce, start, end)
+
+
 def name_piece(name):
     return [len(name)] + name
 
@@ -167,6 +211,7 @@ def sealed_piece(key, text):
 
 
 def times_of(ticket):
+    """Start and end, of a ticket or of what is told of one."""
     return octets_of(ticket.start, 8) + octets_of(ticket.end, 8)
 
 
