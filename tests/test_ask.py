@@ -3,14 +3,11 @@
 import unittest
 
 from trusthouse.papers import tk_ask
-from witness import FRESH, MOST, Untouched, add, answer, asked, begin, bytes_answer, given, key_of, last, refusal
+from witness import (BESIDE, FRESH, MOST, NAME_SIGNS, NO_NAMES, Untouched, add, answer, asked, begin, bytes_answer,
+                     given, key_of, last, refusal)
 
 ANN, MAIL = b"ann", b"mail"
 ANN_KEY, MAIL_KEY = key_of(1), key_of(2)
-NAME_SIGNS = b"abcdefghijklmnopqrstuvwxyz0123456789.-"
-# The bytes just beside a to z, 0 to 9, `.` and `-`; some of these are signs of a name themselves.
-BESIDE = b"`{/:,./-"
-NO_NAMES = (b"", b"x" * 33, b"x" * 64, b"Ann", b"an n", b"ann\0", b"\0ann", b"an_n", b"a\xe1n", b"\xff" * 64)
 
 
 def told_for(nonce, life, client, service):

@@ -2,10 +2,10 @@
 
 import unittest
 
-from witness import (MOST, add, answer, asked, begin, key_of, last, let_in, proof, refusal, run, show, shown, ticket)
+from witness import (MOST, NAME_SIGNS, add, answer, asked, begin, key_of, last, let_in, proof, refusal, run, show,
+                     shown, ticket)
 
 ANN, MAIL = b"ann", b"mail"
-NAME_SIGNS = b"abcdefghijklmnopqrstuvwxyz0123456789.-"
 
 
 def many(count):

@@ -3,15 +3,14 @@
 import unittest
 
 from trusthouse.papers import tk_ask, tk_open
-from witness import (FRESH, MOST, Untouched, add, answer, asked, begin, bytes_answer, counted, eight, given, key_of, last,
-                     let_in, more_asked, named, proof, run, seal, show, shown, ticket)
+from witness import (FRESH, NAME_SIGNS, NO_NAMES, Untouched, add, answer, asked, begin, bytes_answer, counted, eight,
+                     given, key_of, last, let_in, more_asked, named, proof, run, seal, show, shown, ticket)
 
 ANN, MAIL, NEWS, HOUSE = b"ann", b"mail", b"news", b"keys"
 ANN_KEY, MAIL_KEY, HOUSE_KEY, SESSION, NEW = key_of(1), key_of(2), key_of(3), key_of(7), key_of(8)
 TICKET = ticket(MAIL_KEY, ANN, NEW, 1000, 1600)
 KNOWN = [begin(), add(ANN, ANN_KEY), add(MAIL, MAIL_KEY), add(HOUSE, HOUSE_KEY)]
 GREATEST = 2 ** 64 - 1
-NO_NAMES = (b"", b"x" * 33, b"x" * 64, b"Mail", b"ma il", b"mail\0", b"\0mail", b"ma_il", b"m\xe1il", b"\xff" * 64)
 
 
 def text_of(service=MAIL, nonce=77, start=1000, end=1600, key=NEW):
@@ -95,7 +94,7 @@ class Opened(unittest.TestCase):
 
     def test_the_signs_of_a_name(self):
         for sign in range(256):
-            due = opened() if sign in b"abcdefghijklmnopqrstuvwxyz0123456789.-" else [-2]
+            due = opened() if sign in NAME_SIGNS else [-2]
             for name in (bytes([sign]), bytes([97, sign]), bytes([sign, 97]), b"x" * 31 + bytes([sign])):
                 self.assertEqual(told_for(message_of(text_of(name)), service=name), due)
 

@@ -6,6 +6,10 @@ from trusthouse.desk import answers
 
 FRESH = bytes(range(100, 116))
 MOST = 4294967295
+NAME_SIGNS = b"abcdefghijklmnopqrstuvwxyz0123456789.-"
+# The bytes just beside a to z, 0 to 9, `.` and `-`; some of these are signs of a name themselves.
+BESIDE = b"`{/:,./-"
+NO_NAMES = (b"", b"x" * 33, b"x" * 64, b"Ann", b"an n", b"ann\0", b"\0ann", b"an_n", b"a\xe1n", b"\xff" * 64)
 
 
 def xtea(key, block):

@@ -12,6 +12,7 @@ REFUSED = 9
 
 LONGEST_MESSAGE = 512
 LONGEST_NAME = 32
+LONGEST_TICKET = 200
 
 
 class Asked:
@@ -205,9 +206,12 @@ def name_piece(name):
     return [len(name)] + name
 
 
+def counted_piece(row):
+    return octets_of(len(row), 2) + row
+
+
 def sealed_piece(key, text):
-    sealed = seal(key, text)
-    return octets_of(len(sealed), 2) + sealed
+    return counted_piece(seal(key, text))
 
 
 def times_of(ticket):
@@ -225,8 +229,15 @@ def told_piece(ticket, service, nonce, asker_key):
     return sealed_piece(asker_key, text)
 
 
-def asked_message(nonce, life, client, service):
-    return [ASKED] + name_piece(client) + name_piece(service) + octets_of(nonce, 8) + octets_of(life, 4)
+def wanted_piece(nonce, life, service):
+    """What is wanted, as it ends what is asked and what is more asked."""
+    return name_piece(service) + octets_of(nonce, 8) + octets_of(life, 4)
+
+
+def showing_piece(now, key, ticket, client):
+    """The ticket as it is, and a proof, with the ticket's key, of its client."""
+    proof = sealed_piece(key, name_piece(client) + octets_of(now, 8))
+    return counted_piece(ticket) + proof
 
 
 def refused(why):

@@ -1,13 +1,14 @@
 """Papers: what an asker makes and opens by themselves, without a house."""
 
-from trusthouse.messages import LONGEST_MESSAGE, asked_message, is_name, read_given, read_told, times_of
+from trusthouse.messages import ASKED, LONGEST_MESSAGE, LONGEST_TICKET, MORE_ASKED
+from trusthouse.messages import is_name, name_piece, read_given, read_told, showing_piece, times_of, wanted_piece
 
 
 def tk_ask(nonce, life, client, service):
     """How many bytes the message has, then these; or -2 where a name is none."""
     if not is_name(client) or not is_name(service):
         return [-2]
-    message = asked_message(nonce, life, client, service)
+    message = [ASKED] + name_piece(client) + wanted_piece(nonce, life, service)
     return [len(message)] + message
 
 
@@ -23,3 +24,11 @@ def tk_open(nonce, key, message, service):
         return [-1]
     opened = told.key + times_of(told) + given.ticket
     return [len(opened)] + opened
+
+
+def tk_want(now, nonce, life, key, ticket, client, service):
+    """How many bytes the message has, then these; or -2 where a name is none or the ticket is too long."""
+    if len(ticket) > LONGEST_TICKET or not is_name(client) or not is_name(service):
+        return [-2]
+    message = [MORE_ASKED] + showing_piece(now, key, ticket, client) + wanted_piece(nonce, life, service)
+    return [len(message)] + message
