@@ -3,7 +3,8 @@
 import unittest
 
 from trusthouse.desk import answers
-from witness import (FRESH, add, answer, asked, begin, given, key_of, parted, proof, refusal, run, show, shown, ticket)
+from witness import (FRESH, Untouched, add, answer, asked, begin, given, key_of, parted, proof, refusal, run, show,
+                     shown, ticket)
 
 ANN, MAIL = b"ann", b"mail"
 ANN_KEY, MAIL_KEY, SESSION = key_of(1), key_of(2), key_of(7)
@@ -32,7 +33,7 @@ class Answers(unittest.TestCase):
         self.assertEqual({type(number) for number in answers(some_calls())}, {int})
 
     def test_what_is_handed_in_stays(self):
-        calls = some_calls()
+        calls = Untouched(some_calls())
         answers(calls)
         self.assertEqual(calls, some_calls())
 

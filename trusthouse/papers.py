@@ -1,6 +1,6 @@
 """Papers: what an asker makes and opens by themselves, without a house."""
 
-from trusthouse.messages import ASKED, LONGEST_MESSAGE, LONGEST_TICKET, MORE_ASKED
+from trusthouse.messages import ASKED, LONGEST_MESSAGE, LONGEST_TICKET, MORE_ASKED, SHOWN
 from trusthouse.messages import is_name, name_piece, read_given, read_told, showing_piece, times_of, wanted_piece
 
 
@@ -31,4 +31,12 @@ def tk_want(now, nonce, life, key, ticket, client, service):
     if len(ticket) > LONGEST_TICKET or not is_name(client) or not is_name(service):
         return [-2]
     message = [MORE_ASKED] + showing_piece(now, key, ticket, client) + wanted_piece(nonce, life, service)
+    return [len(message)] + message
+
+
+def tk_prove(now, key, ticket, client):
+    """How many bytes the message has, then these; or -2 where the name is none or the ticket is too long."""
+    if len(ticket) > LONGEST_TICKET or not is_name(client):
+        return [-2]
+    message = [SHOWN] + showing_piece(now, key, ticket, client)
     return [len(message)] + message
